@@ -1,0 +1,1 @@
+"""Texts in wide characters: classes, cases, columns, order, patterns, literals."""
