@@ -1,6 +1,7 @@
-"""The calls as they stand: names, arguments, kinds, and that nothing is kept between two calls."""
+"""The calls as they stand: names, arguments, kinds, and that nothing is kept or changed."""
 
 import contextlib
+import copy
 import inspect
 import io
 import unittest
@@ -11,45 +12,103 @@ CALLS = {
     "class_of": ["c"],
     "fold": ["c"],
     "upper": ["c"],
+    "digit": ["c"],
+    "columns": ["c"],
+    "compare": ["a", "b"],
 }
 
-ONE_CHARACTER = ["class_of", "fold", "upper"]
+ONE_CHARACTER = ["class_of", "fold", "upper", "digit", "columns"]
 
 CHARACTERS = [
     0x0, 0x9, 0x20, 0x30, 0x41, 0x61, 0x85, 0xD7, 0xFF, 0x178, 0x17F, 0x301, 0x3A2, 0x3C2, 0x40F, 0x669, 0x212A,
     0x4E00, 0xD800, 0xDFFF, 0xFF21, 0x10FFFF, 0x110000, 4294967295,
 ]
 
+# How many whole numbers each call answers with.
+SIZES = {"compare": 1}
+
+
+def chars_of(text):
+    return [ord(sign) for sign in text]
+
+
+TEXTS = [
+    [],
+    CHARACTERS,
+    chars_of("a007b"),
+    chars_of("A7B"),
+    chars_of("  -12x"),
+    chars_of("*[!a-c]?\\*["),
+    [0x39] * 500,
+]
+
+
+def samples():
+    """Each call's name with arguments of its own."""
+    for name in ONE_CHARACTER:
+        for c in CHARACTERS:
+            yield name, [c]
+    for first in TEXTS:
+        for second in TEXTS:
+            yield "compare", [list(first), list(second)]
+
+
+class OnlyRead(list):
+    """A list that refuses to be changed, were it only for a while."""
+
+    def refuse(self, *rest, **named):
+        raise AssertionError("a list that was handed in is changed")
+
+    __setitem__ = __delitem__ = __iadd__ = __imul__ = refuse
+    append = extend = insert = pop = remove = clear = sort = reverse = refuse
+
+
+def only_read(argument):
+    return OnlyRead(argument) if isinstance(argument, list) else argument
+
 
 class InterfaceTest(unittest.TestCase):
     def test_names_of_arguments(self):
         for name, arguments in CALLS.items():
-            parameters = inspect.signature(getattr(chars, name)).parameters
-            self.assertEqual(list(parameters), arguments, name)
+            call = getattr(chars, name)
+            self.assertEqual(list(inspect.signature(call).parameters), arguments, name)
+            self.assertEqual(call.__module__, "widetexts.chars", name)
 
-    def test_a_list_of_one_whole_number(self):
-        for name in ONE_CHARACTER:
-            for c in CHARACTERS:
-                answer = getattr(chars, name)(c)
-                self.assertIs(type(answer), list, name)
-                self.assertEqual([type(number) for number in answer], [int], name)
+    def test_every_call_has_samples(self):
+        self.assertEqual({name for name, _ in samples()}, set(CALLS))
+
+    def test_a_list_of_so_many_whole_numbers(self):
+        for name, arguments in samples():
+            answer = getattr(chars, name)(*arguments)
+            self.assertIs(type(answer), list, name)
+            self.assertEqual([type(number) for number in answer], [int] * SIZES.get(name, 1), f"{name} {arguments}")
+
+    def test_what_is_handed_in_stays(self):
+        for name, arguments in samples():
+            before = copy.deepcopy(arguments)
+            getattr(chars, name)(*arguments)
+            self.assertEqual(arguments, before, name)
+            getattr(chars, name)(*[only_read(argument) for argument in arguments])
 
     def test_a_second_call_answers_the_same(self):
-        for name in ONE_CHARACTER:
+        for name, arguments in samples():
             call = getattr(chars, name)
-            for c in CHARACTERS:
-                first = call(c)
-                kept = list(first)
-                # What the caller does with an answer must not show in the next one.
-                first.append(-5)
-                self.assertEqual(call(c), kept, name)
+            first = call(*arguments)
+            kept = list(first)
+            # What the caller does with an answer must not show in the next one.
+            first.append(-5)
+            self.assertEqual(call(*arguments), kept, name)
+
+    def test_an_earlier_call_does_not_show(self):
+        kept = [getattr(chars, name)(*arguments) for name, arguments in samples()]
+        backwards = [getattr(chars, name)(*arguments) for name, arguments in reversed(list(samples()))]
+        self.assertEqual(kept, backwards[::-1])
 
     def test_nothing_is_printed(self):
         out = io.StringIO()
         with contextlib.redirect_stdout(out), contextlib.redirect_stderr(out):
-            for name in ONE_CHARACTER:
-                for c in CHARACTERS:
-                    getattr(chars, name)(c)
+            for name, arguments in samples():
+                getattr(chars, name)(*arguments)
         self.assertEqual(out.getvalue(), "")
 
 

@@ -53,6 +53,37 @@ def bound_names(node):
     return []
 
 
+def names_of_top(path):
+    names = []
+    for node in ast.parse(path.read_text(encoding="utf-8")).body:
+        names.extend(bound_names(node))
+        if isinstance(node, ast.Assign):
+            names.extend(target.id for target in node.targets)
+    return names
+
+
+def imports_of(path):
+    tree = ast.parse(path.read_text(encoding="utf-8"))
+    return [node for node in ast.walk(tree) if isinstance(node, ast.ImportFrom)]
+
+
+def imported_names(path):
+    return [alias.name for node in imports_of(path) for alias in node.names]
+
+
+def drawn_from(path):
+    """The files that this one draws from, in however many steps."""
+    found = []
+    waiting = [path]
+    while waiting:
+        for node in imports_of(waiting.pop()):
+            source = PACKAGE / (node.module.partition(".")[2].replace(".", "/") + ".py")
+            if source not in found:
+                found.append(source)
+                waiting.append(source)
+    return found
+
+
 class LanguageTest(unittest.TestCase):
     def test_only_plain_files(self):
         for path in package_files():
@@ -88,6 +119,32 @@ class LanguageTest(unittest.TestCase):
                 self.assertEqual(node.level, 0, place)
                 self.assertRegex(node.module, r"\Awidetexts\.[a-z]", place)
                 self.assertNotIn("*", [alias.name for alias in node.names], place)
+
+    def test_imports_are_drawn_from_where_they_are_defined(self):
+        for place, node in nodes():
+            if isinstance(node, ast.ImportFrom):
+                source = PACKAGE / (node.module.partition(".")[2].replace(".", "/") + ".py")
+                for alias in node.names:
+                    self.assertIn(alias.name, names_of_top(source), place)
+                    self.assertIsNone(alias.asname, place)
+
+    def test_no_two_files_draw_from_one_another(self):
+        for path in package_files():
+            self.assertNotIn(path, drawn_from(path), path.name)
+
+    def test_each_name_is_bound_once_at_the_top(self):
+        for path in package_files():
+            names = names_of_top(path) + imported_names(path)
+            self.assertEqual(sorted(names), sorted(set(names)), path.name)
+
+    def test_no_local_is_called_like_an_import_or_a_class(self):
+        for path, text in sources():
+            tree = ast.parse(text)
+            classes = [node.name for node in ast.walk(tree) if isinstance(node, ast.ClassDef)]
+            for function in ast.walk(tree):
+                if isinstance(function, ast.FunctionDef):
+                    locals_of = [name for node in ast.walk(function) for name in bound_names(node)]
+                    self.assertEqual(set(locals_of) & set(classes + imported_names(path)), set(), function.name)
 
     def test_names(self):
         for place, node in nodes():

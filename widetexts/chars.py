@@ -1,131 +1,6 @@
-"""The calls on wide characters; each answers with a list of whole numbers."""
+"""The calls on wide characters and their texts; each answers with a list of whole numbers."""
 
-# A stretch is (first, last), both ends within it.
-NO_CHARACTERS = (
-    (0xD800, 0xDFFF),
-    (0x110000, 0xFFFFFFFF),
-)
-
-BLANKS = (
-    (0x9, 0xD),
-    (0x20, 0x20),
-    (0x85, 0x85),
-    (0xA0, 0xA0),
-    (0x2000, 0x200A),
-    (0x2028, 0x2029),
-    (0x202F, 0x202F),
-    (0x3000, 0x3000),
-)
-
-CONTROLS = (
-    (0x0, 0x1F),
-    (0x7F, 0x9F),
-)
-
-# Each is the 0 of a row of ten digits.
-DIGIT_ZEROS = (0x30, 0x660, 0x6F0, 0x966, 0xFF10)
-
-LETTERS = (
-    (0x41, 0x5A),
-    (0x61, 0x7A),
-    (0xC0, 0xD6),
-    (0xD8, 0xF6),
-    (0xF8, 0xFF),
-    (0x178, 0x178),
-    (0x17F, 0x17F),
-    (0x391, 0x3A1),
-    (0x3A3, 0x3A9),
-    (0x3B1, 0x3C9),
-    (0x400, 0x45F),
-    (0x5D0, 0x5EA),
-    (0x212A, 0x212A),
-    (0x4E00, 0x9FFF),
-    (0xAC00, 0xD7A3),
-    (0xFF21, 0xFF3A),
-    (0xFF41, 0xFF5A),
-)
-
-MARKS = (
-    (0x300, 0x36F),
-)
-
-SIGNS = (
-    (0x21, 0x2F),
-    (0x3A, 0x40),
-    (0x5B, 0x60),
-    (0x7B, 0x7E),
-)
-
-# A row of the two tables below is (first, last, what the first turns into);
-# the others of the stretch turn into what follows that, in step.
-TO_SMALL = (
-    (0x41, 0x5A, 0x61),
-    (0xC0, 0xD6, 0xE0),
-    (0xD8, 0xDE, 0xF8),
-    (0x178, 0x178, 0xFF),
-    (0x17F, 0x17F, 0x73),
-    (0x391, 0x3A1, 0x3B1),
-    (0x3A3, 0x3A9, 0x3C3),
-    (0x3C2, 0x3C2, 0x3C3),
-    (0x400, 0x40F, 0x450),
-    (0x410, 0x42F, 0x430),
-    (0x212A, 0x212A, 0x6B),
-    (0xFF21, 0xFF3A, 0xFF41),
-)
-
-TO_CAPITAL = (
-    (0x61, 0x7A, 0x41),
-    (0xE0, 0xF6, 0xC0),
-    (0xF8, 0xFE, 0xD8),
-    (0xFF, 0xFF, 0x178),
-    (0x17F, 0x17F, 0x53),
-    (0x3B1, 0x3C1, 0x391),
-    (0x3C2, 0x3C2, 0x3A3),
-    (0x3C3, 0x3C9, 0x3A3),
-    (0x430, 0x44F, 0x410),
-    (0x450, 0x45F, 0x400),
-    (0xFF41, 0xFF5A, 0xFF21),
-)
-
-
-def is_within(c, stretches):
-    for first, last in stretches:
-        if first <= c <= last:
-            return True
-    return False
-
-
-def is_digit(c):
-    for zero in DIGIT_ZEROS:
-        if zero <= c <= zero + 9:
-            return True
-    return False
-
-
-def class_number(c):
-    # The order counts: some characters stand in two tables, and the first that fits is answered.
-    if is_within(c, NO_CHARACTERS):
-        return 7
-    if is_within(c, BLANKS):
-        return 3
-    if is_within(c, CONTROLS):
-        return 4
-    if is_digit(c):
-        return 2
-    if is_within(c, LETTERS):
-        return 1
-    if is_within(c, MARKS):
-        return 5
-    if is_within(c, SIGNS):
-        return 6
-    return 0
-
-
-def turned(c, rows):
-    for first, last, turned_first in rows:
-        if first <= c <= last:
-            return c - first + turned_first
-    return c
+from widetexts.onechar import capital, class_number, column_count, digit_value, is_digit, small_letter
 
 
 def class_of(c):
@@ -133,8 +8,81 @@ def class_of(c):
 
 
 def fold(c):
-    return [turned(c, TO_SMALL)]
+    return [small_letter(c)]
 
 
 def upper(c):
-    return [turned(c, TO_CAPITAL)]
+    return [capital(c)]
+
+
+def digit(c):
+    return [digit_value(c)]
+
+
+def columns(c):
+    return [column_count(c)]
+
+
+def order_of(x, y):
+    """Which of two numbers comes first; of two lists of numbers, item by item, the one that has ended comes first."""
+    if x < y:
+        return -1
+    if x > y:
+        return 1
+    return 0
+
+
+def digits_end(text, start):
+    """The place behind the longest row of digits that begins at start; start itself where no digit is there."""
+    end = start
+    while end < len(text) and is_digit(text[end]):
+        end = end + 1
+    return end
+
+
+def values_of_row(row):
+    """What the digits stand for, without the zeros ahead: those make a row longer, but not a greater number."""
+    values = []
+    for c in row:
+        value = digit_value(c)
+        if value > 0 or len(values) > 0:
+            values.append(value)
+    return values
+
+
+def order_of_rows(row, other_row):
+    values = values_of_row(row)
+    other_values = values_of_row(other_row)
+    order = order_of(len(values), len(other_values))
+    if order != 0:
+        return order
+    return order_of(values, other_values)
+
+
+def order_by_sense(a, b):
+    """The order of two texts in which rows of digits are numbers, and capitals are like their small letters."""
+    i = 0
+    j = 0
+    while i < len(a) and j < len(b):
+        i_end = digits_end(a, i)
+        j_end = digits_end(b, j)
+        if i_end > i and j_end > j:
+            order = order_of_rows(a[i:i_end], b[j:j_end])
+        elif i_end > i:
+            order = -1
+        elif j_end > j:
+            order = 1
+        else:
+            order = order_of(small_letter(a[i]), small_letter(b[j]))
+        if order != 0:
+            return order
+        i = max(i_end, i + 1)
+        j = max(j_end, j + 1)
+    return order_of(len(a) - i, len(b) - j)
+
+
+def compare(a, b):
+    order = order_by_sense(a, b)
+    if order == 0:
+        order = order_of(a, b)
+    return [order]
