@@ -15,6 +15,9 @@ CALLS = {
     "digit": ["c"],
     "columns": ["c"],
     "compare": ["a", "b"],
+    "match_of": ["pattern", "text"],
+    "number": ["text"],
+    "cut": ["columns", "text"],
 }
 
 ONE_CHARACTER = ["class_of", "fold", "upper", "digit", "columns"]
@@ -24,8 +27,8 @@ CHARACTERS = [
     0x4E00, 0xD800, 0xDFFF, 0xFF21, 0x10FFFF, 0x110000, 4294967295,
 ]
 
-# How many whole numbers each call answers with.
-SIZES = {"compare": 1}
+# How many whole numbers each call answers with, where it isn't one.
+SIZES = {"number": 2, "cut": 2}
 
 
 def chars_of(text):
@@ -51,6 +54,11 @@ def samples():
     for first in TEXTS:
         for second in TEXTS:
             yield "compare", [list(first), list(second)]
+            yield "match_of", [list(first), list(second)]
+    for text in TEXTS:
+        yield "number", [list(text)]
+        for most in (-2147483648, -1, 0, 3, 2147483647):
+            yield "cut", [most, list(text)]
 
 
 class OnlyRead(list):

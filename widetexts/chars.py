@@ -1,6 +1,24 @@
 """The calls on wide characters and their texts; each answers with a list of whole numbers."""
 
-from widetexts.onechar import capital, class_number, column_count, digit_value, is_digit, small_letter
+from widetexts.onechar import capital, class_number, column_count, digit_value, digit_zero
+from widetexts.onechar import is_blank, is_digit, small_letter
+
+EXCLAMATION = 0x21
+STAR = 0x2A
+PLUS = 0x2B
+HYPHEN = 0x2D
+QUESTION = 0x3F
+OPENING = 0x5B
+BACKSLASH = 0x5C
+CLOSING = 0x5D
+CARET = 0x5E
+MINUS = 0x2212
+
+# A part of a pattern is (kind, what): these two, ("itself", a small letter), and ("set" or "all but set", stretches).
+ANY_ROW = ("row", ())
+ANY_ONE = ("one", ())
+
+MOST_NUMBER = 0x7FFFFFFFFFFFFFFF
 
 
 def class_of(c):
@@ -86,3 +104,189 @@ def compare(a, b):
     if order == 0:
         order = order_of(a, b)
     return [order]
+
+
+def last_place(c, text):
+    """Where c stands for the last time; -1 where it doesn't."""
+    k = len(text) - 1
+    while k >= 0 and text[k] != c:
+        k = k - 1
+    return k
+
+
+def set_start(pattern, k):
+    """The place of the first character, a ] or any other, of the set whose [ stands at k."""
+    if k + 1 < len(pattern) and pattern[k + 1] in (EXCLAMATION, CARET):
+        return k + 2
+    return k + 1
+
+
+def set_end(pattern, start):
+    """Where the ] stands that ends the set; the character at start can't be it."""
+    end = start + 1
+    while pattern[end] != CLOSING:
+        end = end + 1
+    return end
+
+
+def stretches_between(pattern, start, end):
+    """The stretches of a set, a single character as one that has it at both ends."""
+    stretches = []
+    k = start
+    while k < end:
+        if k + 2 < end and pattern[k + 1] == HYPHEN:
+            stretches.append((pattern[k], pattern[k + 2]))
+            k = k + 3
+        else:
+            stretches.append((pattern[k], pattern[k]))
+            k = k + 1
+    return stretches
+
+
+def parts_of(pattern):
+    parts = []
+    # Known ahead, so that no [ sends a walk through the whole pattern in vain.
+    last_closing = last_place(CLOSING, pattern)
+    k = 0
+    while k < len(pattern):
+        c = pattern[k]
+        start = set_start(pattern, k)
+        end = k
+        if c == STAR:
+            # Several in a row fit just what one fits.
+            if len(parts) == 0 or parts[-1] != ANY_ROW:
+                parts.append(ANY_ROW)
+        elif c == QUESTION:
+            parts.append(ANY_ONE)
+        elif c == BACKSLASH and k + 1 < len(pattern):
+            end = k + 1
+            parts.append(("itself", small_letter(pattern[end])))
+        elif c == OPENING and start < last_closing:
+            end = set_end(pattern, start)
+            kind = "set" if start == k + 1 else "all but set"
+            parts.append((kind, stretches_between(pattern, start, end)))
+        else:
+            parts.append(("itself", small_letter(c)))
+        k = end + 1
+    return parts
+
+
+def turns_of(stretches, bit):
+    """Going up through all characters, where the set begins and ceases to have them, each time with the bit."""
+    turns = []
+    done = 0
+    for first, last in sorted(stretches):
+        # What an earlier stretch has already is left out, and with it a stretch whose ends stand the wrong way round.
+        start = max(first, done)
+        if start <= last:
+            turns.append((start, bit))
+            turns.append((last + 1, bit))
+            done = last + 1
+    return turns
+
+
+class PartBits:
+    """Which parts of a pattern fit a character, all in one whole number: part k is the bit 1 << k."""
+
+    def __init__(self, parts):
+        self.rows = 0
+        self.ones = 0
+        self.turned_round = 0
+        self.by_letter = {}
+        self.bounds = []
+        self.sets_from_bounds = [0]
+        turns = []
+        bit = 1
+        for kind, what in parts:
+            if kind == "row":
+                self.rows = self.rows | bit
+            elif kind == "one":
+                self.ones = self.ones | bit
+            elif kind == "itself":
+                self.by_letter[what] = self.by_letter.get(what, 0) | bit
+            else:
+                turns.extend(turns_of(what, bit))
+            if kind == "all but set":
+                self.turned_round = self.turned_round | bit
+            bit = bit << 1
+        for bound, turned_bit in sorted(turns):
+            self.bounds.append(bound)
+            self.sets_from_bounds.append(self.sets_from_bounds[-1] ^ turned_bit)
+
+    def sets_with(self, c):
+        """The sets that have c itself, by halving what is left of the bounds."""
+        low = 0
+        high = len(self.bounds)
+        while low < high:
+            middle = (low + high) // 2
+            if self.bounds[middle] <= c:
+                low = middle + 1
+            else:
+                high = middle
+        return self.sets_from_bounds[low]
+
+    def fitting(self, c):
+        small = small_letter(c)
+        sets = self.sets_with(c) | self.sets_with(small) | self.sets_with(capital(c))
+        return self.ones | self.by_letter.get(small, 0) | (sets ^ self.turned_round)
+
+
+def past_rows(reached, rows):
+    # A * fits no character at all, too. One step is enough, as parts_of leaves no two * side by side.
+    return reached | ((reached & rows) << 1)
+
+
+def match_of(pattern, text):
+    parts = parts_of(pattern)
+    bits = PartBits(parts)
+    # The bit 1 << k tells that the first k parts fit the characters passed so far. So all ways to fit are followed
+    # at once, and no text makes the call try one after the other.
+    reached = past_rows(1, bits.rows)
+    for c in text:
+        stayed = reached & bits.rows
+        stepped = (reached & bits.fitting(c)) << 1
+        reached = past_rows(stayed | stepped, bits.rows)
+    return [reached >> len(parts)]
+
+
+def row_end(text, start):
+    """The place behind the longest row of digits, all of one row of ten, that begins at start."""
+    end = start
+    while end < len(text) and is_digit(text[end]) and digit_zero(text[end]) == digit_zero(text[start]):
+        end = end + 1
+    return end
+
+
+def bounded_value(row, most):
+    value = 0
+    for c in row:
+        # Bounded on the way too, so that a long row makes no great numbers.
+        value = min(value * 10 + digit_value(c), most)
+    return value
+
+
+def number(text):
+    start = 0
+    while start < len(text) and is_blank(text[start]):
+        start = start + 1
+    sign = text[start] if start < len(text) else 0
+    if sign in (PLUS, HYPHEN, MINUS):
+        start = start + 1
+    end = row_end(text, start)
+    if end == start:
+        return [0, 0]
+    if sign in (HYPHEN, MINUS):
+        return [-bounded_value(text[start:end], MOST_NUMBER + 1), end]
+    return [bounded_value(text[start:end], MOST_NUMBER), end]
+
+
+def cut(columns, text):
+    used = 0
+    size = 0
+    for c in text:
+        width = column_count(c)
+        if width < 0 or used + width > columns:
+            break
+        used = used + width
+        size = size + 1
+    return [used, size]
