@@ -18,6 +18,9 @@ CALLS = {
     "match_of": ["pattern", "text"],
     "number": ["text"],
     "cut": ["columns", "text"],
+    "to16": ["most", "text"],
+    "from16": ["most", "units"],
+    "literal": ["most", "text"],
 }
 
 ONE_CHARACTER = ["class_of", "fold", "upper", "digit", "columns"]
@@ -27,8 +30,9 @@ CHARACTERS = [
     0x4E00, 0xD800, 0xDFFF, 0xFF21, 0x10FFFF, 0x110000, 4294967295,
 ]
 
-# How many whole numbers each call answers with, where it isn't one.
+# How many whole numbers each call answers with, where it isn't one; the calls of COUNTED say it by the first.
 SIZES = {"number": 2, "cut": 2}
+COUNTED = ["to16", "from16", "literal"]
 
 
 def chars_of(text):
@@ -43,6 +47,15 @@ TEXTS = [
     chars_of("  -12x"),
     chars_of("*[!a-c]?\\*["),
     [0x39] * 500,
+    [0x0, 0x22, 0x5C, 0xE9, 0x1F600, 0x10FFFF],
+]
+
+UNITS = [
+    [],
+    [0x41, 0xD83D, 0xDE00, 0xFFFF],
+    [0x41, 0xD83D],
+    [0xDE00, 0xD83D],
+    [0xD800, 0xDC00] * 200,
 ]
 
 
@@ -59,6 +72,18 @@ def samples():
         yield "number", [list(text)]
         for most in (-2147483648, -1, 0, 3, 2147483647):
             yield "cut", [most, list(text)]
+    for most in (0, 1, 3, 7, 30, 4294967295):
+        for text in TEXTS:
+            yield "to16", [most, list(text)]
+            yield "literal", [most, list(text)]
+        for units in UNITS:
+            yield "from16", [most, list(units)]
+
+
+def size_told(name, answer):
+    if name in COUNTED:
+        return 1 if answer[0] == -1 else 1 + answer[0]
+    return SIZES.get(name, 1)
 
 
 class OnlyRead(list):
@@ -89,7 +114,14 @@ class InterfaceTest(unittest.TestCase):
         for name, arguments in samples():
             answer = getattr(chars, name)(*arguments)
             self.assertIs(type(answer), list, name)
-            self.assertEqual([type(number) for number in answer], [int] * SIZES.get(name, 1), f"{name} {arguments}")
+            kinds = [type(number) for number in answer]
+            self.assertEqual(kinds, [int] * size_told(name, answer), f"{name} {arguments}")
+
+    def test_samples_of_what_is_counted_and_of_what_is_refused(self):
+        for name in COUNTED:
+            answers = [getattr(chars, name)(*arguments) for called, arguments in samples() if called == name]
+            self.assertTrue(any(answer[0] > 1 for answer in answers), name)
+            self.assertTrue(any(answer[0] == -1 for answer in answers), name)
 
     def test_what_is_handed_in_stays(self):
         for name, arguments in samples():

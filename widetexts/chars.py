@@ -1,7 +1,8 @@
 """The calls on wide characters and their texts; each answers with a list of whole numbers."""
 
+from widetexts.escapes import BACKSLASH, octets_of
 from widetexts.onechar import capital, class_number, column_count, digit_value, digit_zero
-from widetexts.onechar import is_blank, is_digit, small_letter
+from widetexts.onechar import is_blank, is_character, is_digit, small_letter
 
 EXCLAMATION = 0x21
 STAR = 0x2A
@@ -9,7 +10,6 @@ PLUS = 0x2B
 HYPHEN = 0x2D
 QUESTION = 0x3F
 OPENING = 0x5B
-BACKSLASH = 0x5C
 CLOSING = 0x5D
 CARET = 0x5E
 MINUS = 0x2212
@@ -19,6 +19,11 @@ ANY_ROW = ("row", ())
 ANY_ONE = ("one", ())
 
 MOST_NUMBER = 0x7FFFFFFFFFFFFFFF
+
+# From here on a character has two units, a first half and a second one, each with ten bits of what it is above this.
+FIRST_OF_TWO_UNITS = 0x10000
+FIRST_HALF = 0xD800
+SECOND_HALF = 0xDC00
 
 
 def class_of(c):
@@ -290,3 +295,61 @@ def cut(columns, text):
         used = used + width
         size = size + 1
     return [used, size]
+
+
+def counted(most, found):
+    """How many were found, then they; -1 where these are more than most."""
+    if len(found) > most:
+        return [-1]
+    return [len(found)] + found
+
+
+def units_of(c):
+    if c < FIRST_OF_TWO_UNITS:
+        return [c]
+    above = c - FIRST_OF_TWO_UNITS
+    return [FIRST_HALF + (above >> 10), SECOND_HALF + (above & 0x3FF)]
+
+
+def to16(most, text):
+    units = []
+    for c in text:
+        if not is_character(c):
+            return [-1]
+        units.extend(units_of(c))
+    return counted(most, units)
+
+
+def is_pair_at(units, k):
+    if k + 1 == len(units):
+        return False
+    return FIRST_HALF <= units[k] < FIRST_HALF + 0x400 and SECOND_HALF <= units[k + 1] < SECOND_HALF + 0x400
+
+
+def character_of_pair(first, second):
+    return FIRST_OF_TWO_UNITS + ((first - FIRST_HALF) << 10) + (second - SECOND_HALF)
+
+
+def from16(most, units):
+    text = []
+    k = 0
+    while k < len(units):
+        if is_pair_at(units, k):
+            text.append(character_of_pair(units[k], units[k + 1]))
+            k = k + 2
+        elif is_character(units[k]):
+            text.append(units[k])
+            k = k + 1
+        else:
+            # Just the halves are no characters, so this is one without the other.
+            return [-1]
+    return counted(most, text)
+
+
+def literal(most, text):
+    octets = []
+    for c in text:
+        if not is_character(c):
+            return [-1]
+        octets.extend(octets_of(c))
+    return counted(most, octets)

@@ -114,6 +114,10 @@ def is_within(c, stretches):
     return False
 
 
+def is_character(c):
+    return not is_within(c, NO_CHARACTERS)
+
+
 def is_blank(c):
     return is_within(c, BLANKS)
 
@@ -139,7 +143,7 @@ def is_digit(c):
 
 def class_number(c):
     # The order counts: some characters stand in two tables, and the first that fits is answered.
-    if is_within(c, NO_CHARACTERS):
+    if not is_character(c):
         return 7
     if is_blank(c):
         return 3
@@ -173,7 +177,7 @@ def capital(c):
 
 def column_count(c):
     # The table is asked, not the class: 9 to D and 85 have the class of blanks, but are -1 here too.
-    if is_within(c, NO_CHARACTERS) or is_within(c, CONTROLS):
+    if not is_character(c) or is_within(c, CONTROLS):
         return -1
     if is_within(c, NO_COLUMNS):
         return 0
