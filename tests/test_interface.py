@@ -4,6 +4,7 @@ import contextlib
 import copy
 import inspect
 import io
+import sys
 import unittest
 
 from widetexts import chars
@@ -21,6 +22,7 @@ CALLS = {
     "to16": ["most", "text"],
     "from16": ["most", "units"],
     "literal": ["most", "text"],
+    "unliteral": ["most", "octets"],
 }
 
 ONE_CHARACTER = ["class_of", "fold", "upper", "digit", "columns"]
@@ -32,7 +34,7 @@ CHARACTERS = [
 
 # How many whole numbers each call answers with, where it isn't one; the calls of COUNTED say it by the first.
 SIZES = {"number": 2, "cut": 2}
-COUNTED = ["to16", "from16", "literal"]
+COUNTED = ["to16", "from16", "literal", "unliteral"]
 
 
 def chars_of(text):
@@ -58,6 +60,30 @@ UNITS = [
     [0xD800, 0xDC00] * 200,
 ]
 
+OCTETS = [
+    [],
+    chars_of("plain"),
+    chars_of('\\"\\n\\12\\x1f600\\u00E9\\U0010FFFF'),
+    chars_of("ab\\"),
+    chars_of("ab\\uD800"),
+    [0x61, 0xFF],
+    chars_of("\\777") * 100,
+]
+
+# As long as may be: what went through these by calls within one another would not come back.
+LONGEST = [
+    ("compare", [[0x39] * 30000, [0x39] * 30000]),
+    ("compare", [[0x61, 0x39] * 15000, [0x61, 0x39] * 15000]),
+    ("match_of", [[0x2A, 0x61] * 15000, [0x61] * 30000]),
+    ("match_of", [[0x5B] + [0x61] * 29998 + [0x5D], [0x61] * 30000]),
+    ("number", [[0x20] * 15000 + [0x39] * 15000]),
+    ("cut", [2147483647, [0x61] * 30000]),
+    ("to16", [4294967295, [0x10FFFF] * 30000]),
+    ("from16", [4294967295, [0xDBFF, 0xDFFF] * 30000]),
+    ("literal", [4294967295, [0x10FFFF] * 30000]),
+    ("unliteral", [4294967295, [0x5C, 0x6E] * 32768]),
+]
+
 
 def samples():
     """Each call's name with arguments of its own."""
@@ -78,11 +104,15 @@ def samples():
             yield "literal", [most, list(text)]
         for units in UNITS:
             yield "from16", [most, list(units)]
+        for octets in OCTETS:
+            yield "unliteral", [most, list(octets)]
 
 
 def size_told(name, answer):
-    if name in COUNTED:
-        return 1 if answer[0] == -1 else 1 + answer[0]
+    if name in COUNTED and answer[0] != -1:
+        return 1 + answer[0]
+    if name == "unliteral":
+        return 2
     return SIZES.get(name, 1)
 
 
@@ -104,8 +134,9 @@ class InterfaceTest(unittest.TestCase):
     def test_names_of_arguments(self):
         for name, arguments in CALLS.items():
             call = getattr(chars, name)
-            self.assertEqual(list(inspect.signature(call).parameters), arguments, name)
+            self.assertEqual(str(inspect.signature(call)), f"({', '.join(arguments)})", name)
             self.assertEqual(call.__module__, "widetexts.chars", name)
+            self.assertEqual(call.__name__, name)
 
     def test_every_call_has_samples(self):
         self.assertEqual({name for name, _ in samples()}, set(CALLS))
@@ -143,6 +174,16 @@ class InterfaceTest(unittest.TestCase):
         kept = [getattr(chars, name)(*arguments) for name, arguments in samples()]
         backwards = [getattr(chars, name)(*arguments) for name, arguments in reversed(list(samples()))]
         self.assertEqual(kept, backwards[::-1])
+
+    def test_no_input_is_too_long_for_calls_within_one_another(self):
+        kept = sys.getrecursionlimit()
+        try:
+            sys.setrecursionlimit(200)
+            for name, arguments in LONGEST:
+                answer = getattr(chars, name)(*arguments)
+                self.assertEqual(len(answer), size_told(name, answer), name)
+        finally:
+            sys.setrecursionlimit(kept)
 
     def test_nothing_is_printed(self):
         out = io.StringIO()

@@ -1,6 +1,6 @@
 """The calls on wide characters and their texts; each answers with a list of whole numbers."""
 
-from widetexts.escapes import BACKSLASH, octets_of
+from widetexts.escapes import BACKSLASH, character_at, octets_of
 from widetexts.onechar import capital, class_number, column_count, digit_value, digit_zero
 from widetexts.onechar import is_blank, is_character, is_digit, small_letter
 
@@ -353,3 +353,18 @@ def literal(most, text):
             return [-1]
         octets.extend(octets_of(c))
     return counted(most, octets)
+
+
+def unliteral(most, octets):
+    text = []
+    place = 0
+    while place < len(octets):
+        found = character_at(octets, place)
+        if not is_character(found[0]):
+            return [-1, place]
+        text.append(found[0])
+        place = found[1]
+    # Asked at the end alone: what doesn't fit is told ahead of what is too much.
+    if len(text) > most:
+        return [-1, place]
+    return [len(text)] + text
